@@ -3,9 +3,10 @@
 MOST_STEPS = 8
 
 NO_STEP = -2
+SAME_TABLE = -6
 NO_WORD = -11
 WRONG_NUMBERS = -22
-NOT_CLOSING = -33
+NO_CLOSING_WORD = -33
 
 START = 0
 
@@ -43,13 +44,63 @@ def only_steps(numbers):
     return all([number in (0, 1) for number in numbers])
 
 
-def refusal(numbers, fewest, most):
-    """What refuses these numbers as a closing word of so many steps; 0 if nothing does."""
-    if len(numbers) < fewest or len(numbers) > most or not only_steps(numbers):
+def is_length(number):
+    """Whether a word may have so many steps."""
+    return number >= 1 and number <= MOST_STEPS
+
+
+def is_word(numbers):
+    """Whether these are the steps of a word, be it one that closes or not."""
+    return is_length(len(numbers)) and only_steps(numbers)
+
+
+def refusal(numbers):
+    """What refuses these numbers as a word that closes; 0 if nothing does."""
+    if not is_word(numbers):
         return WRONG_NUMBERS
     if not closes(numbers):
-        return NOT_CLOSING
+        return NO_CLOSING_WORD
     return 0
+
+
+def refusal_beside(word, numbers):
+    """What refuses these numbers as a closing word of as many steps as this one; 0 if nothing does."""
+    if len(numbers) != len(word):
+        return WRONG_NUMBERS
+    return refusal(numbers)
+
+
+def closing_words(steps):
+    """All closing words of so many steps, in order."""
+    words = [[]]
+    while len(words[0]) < steps:
+        words = [[0] + word for word in words] + [[1] + word for word in words]
+    return [word for word in words if closes(word)]
+
+
+def begun_later(word, steps):
+    """The word begun so many steps later."""
+    return word[steps:] + word[:steps]
+
+
+def held(word, way):
+    """What this way of holding it makes of a word."""
+    made = begun_later(word, way % len(word))
+    if way // len(word) in (1, 3):
+        made = [1 - step for step in made]
+    if way // len(word) in (2, 3):
+        made = list(reversed(made))
+    return made
+
+
+def names_of(word):
+    """What the ways make of a word, way by way: a name may stand there more than once."""
+    return [held(word, way) for way in range(4 * len(word))]
+
+
+def first_name(word):
+    """The first, in order, of a word's names."""
+    return min(names_of(word))
 
 
 def pairs_apart(word, apart):
@@ -76,7 +127,7 @@ def with_length(row):
 
 def start(stacking, numbers):
     """Make the numbers the word."""
-    refused = refusal(numbers, 1, MOST_STEPS)
+    refused = refusal(numbers)
     if refused != 0:
         return [refused]
     stacking.word = list(numbers)
@@ -98,11 +149,9 @@ def exchange(stacking, numbers):
 
 def later(stacking, numbers):
     """Begin the word some steps later."""
-    word = stacking.word
-    first = numbers[0]
-    if first >= len(word):
+    if numbers[0] >= len(stacking.word):
         return [WRONG_NUMBERS]
-    stacking.word = word[first:] + word[:first]
+    stacking.word = begun_later(stacking.word, numbers[0])
     return with_length(stacking.word)
 
 
@@ -140,11 +189,70 @@ def near(stacking, numbers):
 
 def same(stacking, numbers):
     """Tell whether another word of as many steps has the same table."""
-    steps = len(stacking.word)
-    refused = refusal(numbers, steps, steps)
+    refused = refusal_beside(stacking.word, numbers)
     if refused != 0:
         return [refused]
     return [1 if table_of(numbers) == table_of(stacking.word) else 0]
+
+
+def differ(stacking, numbers):
+    """Tell the fewest apart at which the table of another word of as many steps differs."""
+    refused = refusal_beside(stacking.word, numbers)
+    if refused != 0:
+        return [refused]
+    own_table = table_of(stacking.word)
+    for apart, alike_pairs in enumerate(table_of(numbers), start=1):
+        if alike_pairs != own_table[apart - 1]:
+            return [apart]
+    return [SAME_TABLE]
+
+
+def find(stacking, numbers):
+    """Tell the first word, in order, that has these numbers as its table."""
+    if not is_length(len(numbers)):
+        return [WRONG_NUMBERS]
+    for word in closing_words(len(numbers)):
+        if table_of(word) == numbers:
+            return with_length(word)
+    return [NO_CLOSING_WORD]
+
+
+def kinds(stacking, numbers):
+    """Tell how many closing words of so many steps there are, alike ones counted once."""
+    if not is_length(numbers[0]):
+        return [WRONG_NUMBERS]
+    # Words are alike just if they have one first name.
+    return [len(set([tuple(first_name(word)) for word in closing_words(numbers[0])]))]
+
+
+def tables(stacking, numbers):
+    """Tell how many different tables closing words of so many steps have."""
+    if not is_length(numbers[0]):
+        return [WRONG_NUMBERS]
+    return [len(set([tuple(table_of(word)) for word in closing_words(numbers[0])]))]
+
+
+def alike(stacking, numbers):
+    """Tell whether another word, of whatever many steps, is this one held otherwise."""
+    if not is_word(numbers):
+        return [WRONG_NUMBERS]
+    return [1 if numbers in names_of(stacking.word) else 0]
+
+
+def first(stacking, numbers):
+    """Tell the word's first name."""
+    return with_length(first_name(stacking.word))
+
+
+def with_pairs(stacking, numbers):
+    """Tell how many closing words of as many steps have just so many pairs so far apart alike."""
+    counts = [pairs_apart(word, numbers[0])[0] for word in closing_words(len(stacking.word))]
+    return [counts.count(numbers[1])]
+
+
+def state(stacking, numbers):
+    """Tell the word."""
+    return with_length(stacking.word)
 
 
 CALLS = {
@@ -157,6 +265,14 @@ CALLS = {
     6: total,
     7: near,
     8: same,
+    9: differ,
+    10: find,
+    11: kinds,
+    12: tables,
+    13: alike,
+    14: first,
+    15: with_pairs,
+    16: state,
 }
 
 
@@ -164,8 +280,6 @@ def answer(stacking, number, numbers):
     """What one call answers."""
     if number != START and len(stacking.word) == 0:
         return [NO_WORD]
-    if number not in CALLS:
-        raise NotImplementedError(f"call {number} is not written yet")
     return CALLS[number](stacking, numbers)
 
 

@@ -89,3 +89,16 @@ def pairs_by_climbing(word, apart):
 def table_by_climbing(word):
     """How many pairs 1 to n apart lie alike."""
     return [pairs_by_climbing(word, apart)[0] for apart in range(1, len(word) + 1)]
+
+
+def turns(word):
+    """The word begun one step later, opposite, and backwards."""
+    return [word[1:] + word[:1], [{0: 1, 1: 0}[step] for step in word], word[::-1]]
+
+
+def names_by_turning(word):
+    """All that turning makes of a word, over and over, until nothing new comes; in order."""
+    found = [word]
+    for name in found:
+        found.extend(other for other in turns(name) if other not in found)
+    return sorted(found)

@@ -17,6 +17,15 @@ OTHER_CALLS = (
 SOME_CALLS = (
     (START, [0, 0, 1, 1]), (EXCHANGE, 0, 3), (LATER, 1), (PAIRS, 2), (TABLE,), (LYING,), (TOTAL,), (NEAR,),
     (SAME, [0, 1, 0, 1]), (EXCHANGE, 4, 0), (START, [0, 0]), (SAME, [2, 1, 0, 1]), (START, [1, 1, 1]), (TABLE,),
+    (START, [1, 1, 0, 0]), (DIFFER, [0, 1, 0, 1]), (FIND, [0, 4, 0, 4]), (KINDS, 8), (TABLES, 7), (ALIKE, [0, 1, 1, 0]),
+    (FIRST,), (WITH_PAIRS, 2, 2), (STATE,), (DIFFER, []), (FIND, [1, 2, 3]), (KINDS, 0), (TABLES, 9), (ALIKE, [2]),
+)
+
+QUIET_CALLS = (
+    (DIFFER, [0, 1, 0, 1]), (DIFFER, [1, 1, 0, 0]), (DIFFER, []), (DIFFER, [0, 0, 0, 0]), (FIND, [0, 2]),
+    (FIND, [0, 2, 0, 4]), (FIND, [0, 4, 0, 4]), (FIND, [7]), (FIND, []), (KINDS, 4), (KINDS, 0), (TABLES, 4),
+    (TABLES, 9), (ALIKE, [0, 1, 0, 1]), (ALIKE, [1, 1, 0, 0]), (ALIKE, [2]), (FIRST,), (WITH_PAIRS, 2, 2),
+    (WITH_PAIRS, LARGEST, LARGEST), (STATE,),
 )
 
 
@@ -49,6 +58,26 @@ class Written(unittest.TestCase):
             1, -22,
         ])
 
+    def test_answers_of_the_later_calls_number_by_number(self):
+        calls = [0, 4, 1, 1, 0, 0, 9, 4, 0, 1, 0, 1, 10, 3, 0, 0, 3, 11, 6, 12, 7, 13, 2, 0, 1, 14, 15, 2, 4, 16,
+                 9, 0, 10, 1, 16, 11, 9, 12, 0, 13, 1, 14]
+        self.assertEqual(answers(calls), [
+            1, 4,
+            1, 2,
+            4, 3, 0, 0, 0,
+            1, 4,
+            1, 3,
+            1, 0,
+            5, 4, 0, 0, 1, 1,
+            1, 2,
+            5, 4, 1, 1, 0, 0,
+            1, -22,
+            1, -33,
+            1, -22,
+            1, -22,
+            1, -22,
+        ])
+
     def test_whole_numbers_in_a_list(self):
         told = answers(written(*SOME_CALLS))
         self.assertIs(type(told), list)
@@ -59,7 +88,7 @@ class Written(unittest.TestCase):
         row = [0, 2, 0, 1] * 15
         for call in (SAME, DIFFER, FIND, ALIKE):
             self.assertEqual(ask((call, row), (TABLE,)), [[-11], [-11]])
-        self.assertEqual(ask_of([0, 1], (SAME, row), (TABLE,)), [[-22], [2, 0, 2]])
+            self.assertEqual(ask_of([0, 1], (call, row), (TABLE,)), [[-22], [2, 0, 2]])
 
     def test_two_hundred_calls(self):
         told = ask(*([(START, [1] * 60)] * 199 + [(START, [1] * 3)]))
@@ -97,6 +126,20 @@ class NotKept(unittest.TestCase):
         self.assertEqual(ask((TABLE,)), [[-11]])
 
 
+class Quiet(unittest.TestCase):
+    """The calls that tell and change nothing."""
+
+    def test_each_leaves_the_word(self):
+        for word in ([0, 1], [1, 1, 1], [1, 0, 0, 1], [0, 0, 1, 0, 0], [1, 1, 0, 1, 0, 1, 0, 0]):
+            for call in QUIET_CALLS:
+                with self.subTest(word=word, call=call):
+                    self.assertEqual(ask_of(word, call, (STATE,))[1], [len(word)] + word)
+
+    def test_asked_again_they_answer_as_before(self):
+        told = ask_of([1, 0, 0, 1], *QUIET_CALLS, *QUIET_CALLS)
+        self.assertEqual(told[:len(QUIET_CALLS)], told[len(QUIET_CALLS):])
+
+
 class New(unittest.TestCase):
     """An object before a start, and starts behind the first."""
 
@@ -109,6 +152,9 @@ class New(unittest.TestCase):
     def test_wrong_inputs_before_a_start(self):
         told = ask((EXCHANGE, LARGEST, 0), (LATER, LARGEST), (PAIRS, LARGEST), (SAME, []), (SAME, [7] * 60))
         self.assertEqual(told, [[-11]] * 5)
+        told = ask((DIFFER, []), (DIFFER, [7] * 60), (FIND, []), (FIND, [7] * 60), (KINDS, 0), (KINDS, LARGEST),
+                   (TABLES, 0), (TABLES, LARGEST), (ALIKE, []), (ALIKE, [7] * 60), (WITH_PAIRS, LARGEST, LARGEST))
+        self.assertEqual(told, [[-11]] * 11)
 
     def test_a_refused_start_is_none(self):
         for word, refused in (([], -22), ([0, 2], -22), ([0] * 9, -22), ([0, 0], -33), ([1], -33)):

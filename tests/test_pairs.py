@@ -1,4 +1,4 @@
-"""Point 2: pairs, table, lying, total, near; and what holds of them."""
+"""Point 2: pairs, table, lying, total, near."""
 
 import unittest
 
@@ -112,41 +112,6 @@ class EveryClosingWord(unittest.TestCase):
             places = [place(word, layer) for layer in range(len(word))]
             told = ask_of(word, (LYING,))
             self.assertEqual(told, [[3, places.count(0), places.count(1), places.count(2)]], word)
-
-
-class WhatHolds(unittest.TestCase):
-    """What the document says under b and c, of all closing words of 1 to 8 steps."""
-
-    def test_pairs_are_all_layers(self):
-        for word in all_closing_words():
-            for apart in list(range(20)) + [LARGEST]:
-                told = ask_of(word, (PAIRS, apart))
-                self.assertEqual(sum(told[0]), len(word), (word, apart))
-
-    def test_one_on_are_as_many_as_the_rest_apart_one_back(self):
-        for word in all_closing_words():
-            for apart in range(len(word) + 1):
-                told = ask_of(word, (PAIRS, apart), (PAIRS, len(word) - apart))
-                self.assertEqual(told[0][1], told[1][2], (word, apart))
-
-    def test_next_layers_never_lie_alike(self):
-        for word in all_closing_words():
-            told = ask_of(word, (PAIRS, 1), (TABLE,), (NEAR,))
-            self.assertEqual(told[0][0], 0, word)
-            self.assertEqual(told[1][1], 0, word)
-            self.assertGreater(told[2][0], 1, word)
-
-    def test_all_a_round_apart_lie_alike(self):
-        for word in all_closing_words():
-            told = ask_of(word, (PAIRS, len(word)), (TABLE,))
-            self.assertEqual(told[0], [len(word), 0, 0], word)
-            self.assertEqual(told[1][-1], len(word), word)
-
-    def test_the_total_is_that_of_the_squares_of_those_lying(self):
-        for word in all_closing_words():
-            told = ask_of(word, (TOTAL,), (LYING,), (TABLE,))
-            self.assertEqual(told[0], [sum(number * number for number in told[1][1:])], word)
-            self.assertEqual(told[0], [sum(told[2][1:])], word)
 
 
 if __name__ == "__main__":

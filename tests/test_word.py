@@ -1,8 +1,11 @@
-"""Point 1: start, exchange, later."""
+"""Point 1: start, exchange, later, first, state."""
 
 import unittest
 
-from asking import EXCHANGE, LARGEST, LATER, START, all_closing_words, ask, ask_of, is_closing, words
+from asking import (
+    EXCHANGE, FIRST, LARGEST, LATER, START, STATE, all_closing_words, ask, ask_of, is_closing, names_by_turning, words,
+)
+from raylayers.rays import held, names_of
 
 
 class Start(unittest.TestCase):
@@ -96,6 +99,82 @@ class Later(unittest.TestCase):
             for k in (len(word), len(word) + 1, 2 * len(word), LARGEST):
                 with self.subTest(word=word, k=k):
                     self.assertEqual(ask_of(word, (LATER, k), (LATER, 0)), [[-22], [len(word)] + word])
+
+
+class First(unittest.TestCase):
+
+    def test_two_steps(self):
+        self.assertEqual(ask_of([0, 1], (FIRST,)), [[2, 0, 1]])
+        self.assertEqual(ask_of([1, 0], (FIRST,)), [[2, 0, 1]])
+
+    def test_three_like_steps(self):
+        self.assertEqual(ask_of([0, 0, 0], (FIRST,)), [[3, 0, 0, 0]])
+        self.assertEqual(ask_of([1, 1, 1], (FIRST,)), [[3, 0, 0, 0]])
+
+    def test_later(self):
+        self.assertEqual(ask_of([0, 0, 1, 0, 0], (FIRST,)), [[5, 0, 0, 0, 0, 1]])
+
+    def test_opposite(self):
+        self.assertEqual(ask_of([1, 1, 1, 1, 0], (FIRST,)), [[5, 0, 0, 0, 0, 1]])
+
+    def test_backwards(self):
+        self.assertEqual(ask_of([1, 1, 0, 1, 0, 0], (FIRST,)), [[6, 0, 0, 1, 0, 1, 1]])
+
+    def test_eight_steps(self):
+        self.assertEqual(ask_of([1, 1, 0, 1, 1, 0, 0, 0], (FIRST,)), [[8, 0, 0, 0, 1, 1, 0, 1, 1]])
+        self.assertEqual(ask_of([1, 0] * 4, (FIRST,)), [[8, 0, 1, 0, 1, 0, 1, 0, 1]])
+        self.assertEqual(ask_of([1, 1, 1, 1, 1, 0, 1, 1], (FIRST,)), [[8, 0, 0, 0, 0, 0, 0, 0, 1]])
+
+    def test_every_closing_word(self):
+        for word in all_closing_words():
+            self.assertEqual(ask_of(word, (FIRST,)), [[len(word)] + names_by_turning(word)[0]], word)
+
+    def test_all_names_have_one_first_name(self):
+        for word in all_closing_words():
+            told = {tuple(ask_of(name, (FIRST,))[0]) for name in names_by_turning(word)}
+            self.assertEqual(len(told), 1, word)
+
+    def test_the_word_that_is_there_now(self):
+        told = ask_of([1, 1, 0, 0], (FIRST,), (EXCHANGE, 0, 2), (FIRST,), (STATE,), (START, [1, 1, 1]), (FIRST,))
+        self.assertEqual(told, [[4, 0, 0, 1, 1], [4, 0, 1, 1, 0], [4, 0, 0, 1, 1], [4, 0, 1, 1, 0],
+                                [3], [3, 0, 0, 0]])
+
+
+class Ways(unittest.TestCase):
+    """The ways themselves: up to eight steps the calls can't show that backwards is among them.
+
+    What is made of a closing word backwards, some later beginning or its opposite is too.
+    """
+
+    def test_way_by_way(self):
+        made = [held([0, 0, 0, 0, 1], way) for way in range(20)]
+        self.assertEqual(made, [
+            [0, 0, 0, 0, 1], [0, 0, 0, 1, 0], [0, 0, 1, 0, 0], [0, 1, 0, 0, 0], [1, 0, 0, 0, 0],
+            [1, 1, 1, 1, 0], [1, 1, 1, 0, 1], [1, 1, 0, 1, 1], [1, 0, 1, 1, 1], [0, 1, 1, 1, 1],
+            [1, 0, 0, 0, 0], [0, 1, 0, 0, 0], [0, 0, 1, 0, 0], [0, 0, 0, 1, 0], [0, 0, 0, 0, 1],
+            [0, 1, 1, 1, 1], [1, 0, 1, 1, 1], [1, 1, 0, 1, 1], [1, 1, 1, 0, 1], [1, 1, 1, 1, 0],
+        ])
+
+    def test_all_names(self):
+        for word in all_closing_words():
+            made = [held(word, way) for way in range(4 * len(word))]
+            self.assertEqual(names_of(word), made, word)
+            self.assertEqual(sorted(set(map(tuple, made))), list(map(tuple, names_by_turning(word))), word)
+
+
+class State(unittest.TestCase):
+
+    def test_every_closing_word(self):
+        for word in all_closing_words():
+            self.assertEqual(ask_of(word, (STATE,), (STATE,)), [[len(word)] + word] * 2, word)
+
+    def test_behind_changes(self):
+        told = ask_of([0, 0, 1, 1], (EXCHANGE, 0, 3), (STATE,), (LATER, 1), (STATE,), (START, [1, 0]), (STATE,))
+        self.assertEqual(told[1::2], [[4, 1, 0, 1, 0], [4, 0, 1, 0, 1], [2, 1, 0]])
+
+    def test_behind_refusals(self):
+        told = ask_of([0, 0, 1, 1], (EXCHANGE, 0, 4), (LATER, 4), (START, [0, 0]), (START, []), (STATE,))
+        self.assertEqual(told, [[-2], [-22], [-33], [-22], [4, 0, 0, 1, 1]])
 
 
 if __name__ == "__main__":
